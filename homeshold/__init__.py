@@ -1,0 +1,1 @@
+"""Homeshold: files kept by many homes."""

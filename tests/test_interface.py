@@ -1,0 +1,71 @@
+"""[23]: the package, its modules, and the names and arguments that they have."""
+
+import importlib
+import inspect
+import os
+import unittest
+
+import homeshold
+
+# For each module that has landed: its functions, and their arguments in order.
+FUNCTIONS = {
+    "basics": {
+        "is_name": ("thing",), "is_text": ("thing",), "is_row": ("thing",), "is_head": ("thing",),
+        "is_members": ("thing",), "majority": ("members",), "few": ("members",), "chopped": ("text",),
+        "joined": ("pieces",),
+    },
+    "texts": {
+        "packed": ("thing",), "unpacked": ("text",), "check": ("text",), "sealed": ("thing",), "unsealed": ("text",),
+    },
+}
+
+FIELDS = {"NoItem": "index", "BadText": "place", "TooMany": "most"}
+
+
+def module(name):
+    return importlib.import_module("homeshold." + name)
+
+
+class TestInterface(unittest.TestCase):
+    def test_package(self):
+        folder = os.path.dirname(os.path.dirname(os.path.abspath(__file__)))
+        self.assertEqual(os.path.abspath(homeshold.__file__), os.path.join(folder, "homeshold", "__init__.py"))
+
+    def test_functions_are_defined_in_their_files(self):
+        for name, functions in FUNCTIONS.items():
+            for word in functions:
+                with self.subTest(module=name, function=word):
+                    function = getattr(module(name), word)
+                    self.assertTrue(inspect.isfunction(function))
+                    self.assertEqual(function.__module__, "homeshold." + name)
+                    self.assertEqual(function.__name__, word)
+                    self.assertEqual(
+                        os.path.basename(function.__code__.co_filename), name + ".py"
+                    )
+
+    def test_arguments(self):
+        for name, functions in FUNCTIONS.items():
+            for word, arguments in functions.items():
+                with self.subTest(module=name, function=word):
+                    parameters = inspect.signature(getattr(module(name), word)).parameters.values()
+                    self.assertEqual(tuple([one.name for one in parameters]), arguments)
+                    for one in parameters:
+                        self.assertEqual(one.kind, inspect.Parameter.POSITIONAL_OR_KEYWORD)
+                        self.assertIs(one.default, inspect.Parameter.empty)
+
+    def test_errors_are_defined_in_their_file(self):
+        found = {
+            name: thing for name, thing in vars(module("errors")).items() if inspect.isclass(thing)
+        }
+        self.assertEqual(len(found), 31)
+        for name, thing in found.items():
+            self.assertEqual((thing.__module__, thing.__name__), ("homeshold.errors", name))
+
+    def test_fields_of_errors(self):
+        for name, field in FIELDS.items():
+            parameters = inspect.signature(getattr(module("errors"), name)).parameters
+            self.assertEqual(tuple(parameters), (field,))
+
+
+if __name__ == "__main__":
+    unittest.main()
