@@ -15,6 +15,11 @@ def is_integer(thing):
     return isinstance(thing, int) and not isinstance(thing, bool)
 
 
+def is_count(thing):
+    """Whether this is an integer from 0 on."""
+    return is_integer(thing) and thing >= 0
+
+
 def is_from_one(thing):
     """Whether this is an integer from 1 on."""
     return is_integer(thing) and thing >= 1

@@ -115,11 +115,14 @@ def check(text):
     """A number that tells a text from those that a slip of the pen makes of it."""
     if not is_lined(text):
         raise NoText()
-    return sum([_worth(sign) * (k + 1) for k, sign in enumerate(text)]) % CHECK_PRIME
+    return check_behind(0, 0, text)
 
 
-def _worth(sign):
-    return 0 if sign == "\n" else ord(sign) - 31
+def check_behind(number, many, text):
+    """The check of so many signs, whose check is this number, with this text behind them."""
+    # The blank, sign number 32, is worth 1; a line feed is worth nothing.
+    worths = [(ord(sign) - 31) * place for place, sign in enumerate(text, start=many + 1) if sign != "\n"]
+    return (number + sum(worths)) % CHECK_PRIME
 
 
 def sealed(thing):
