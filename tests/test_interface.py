@@ -17,6 +17,37 @@ FUNCTIONS = {
     "texts": {
         "packed": ("thing",), "unpacked": ("text",), "check": ("text",), "sealed": ("thing",), "unsealed": ("text",),
     },
+    "disks": {
+        "lines": ("text",), "opened": ("disk",), "rest": ("text",), "noted": ("disk", "item", "most"),
+        "kept": ("disk", "items", "most"), "standing": ("disk",),
+    },
+    "tables": {
+        "bare_table": (), "behind": ("table", "deed"), "is_table": ("thing",), "is_deed": ("thing",), "is_closed": ("table",),
+        "head_of": ("table", "name"), "led_blocks": ("table",),
+    },
+    "letters": {"is_letter": ("thing",)},
+    "answers": {"answer": ("home", "table", "letter")},
+    "mending": {"begin_mending": ("home", "table", "other")},
+    "values": {
+        "values": ("prime", "lot", "places"), "roots": ("prime", "polynomial", "lot"),
+        "difference": ("prime", "own", "many", "places", "told", "most"), "number_of": ("name", "stamp"),
+    },
+}
+
+# For each module that has landed: its classes, what they are made of, and their methods with their arguments.
+CLASSES = {
+    "disks": {
+        "Disk": ((), {
+            "area": ("k",), "append": ("k", "text", "most"), "clear": ("k",), "shorten": ("k", "many"), "copy": (),
+            "__eq__": ("other",),
+        }),
+    },
+    "hands": {
+        "Hand": (("hand", "epoch", "members", "ahead"), {
+            "begin": ("op",), "take": ("letter",), "again": (), "tick": (), "running": (), "result": (), "at_place": (),
+            "quick": ("name",), "copy": (),
+        }),
+    },
 }
 
 FIELDS = {"NoItem": "index", "BadText": "place", "TooMany": "most"}
@@ -49,6 +80,30 @@ class TestInterface(unittest.TestCase):
                 with self.subTest(module=name, function=word):
                     parameters = inspect.signature(getattr(module(name), word)).parameters.values()
                     self.assertEqual(tuple([one.name for one in parameters]), arguments)
+                    for one in parameters:
+                        self.assertEqual(one.kind, inspect.Parameter.POSITIONAL_OR_KEYWORD)
+                        self.assertIs(one.default, inspect.Parameter.empty)
+
+    def test_classes_are_defined_in_their_files(self):
+        for name, classes in CLASSES.items():
+            for word, (arguments, methods) in classes.items():
+                thing = getattr(module(name), word)
+                self.assertTrue(inspect.isclass(thing))
+                self.assertEqual((thing.__module__, thing.__name__), ("homeshold." + name, word))
+                self.assertEqual(tuple(inspect.signature(thing).parameters), arguments)
+                for method, parts in methods.items():
+                    with self.subTest(module=name, method=method):
+                        # In the class itself, not in a base class alone.
+                        function = vars(thing)[method]
+                        self.assertTrue(inspect.isfunction(function))
+                        self.assertEqual(tuple(inspect.signature(function).parameters), ("self",) + parts)
+                        self.assertEqual(os.path.basename(function.__code__.co_filename), name + ".py")
+
+    def test_methods_take_their_arguments_by_position(self):
+        for name, classes in CLASSES.items():
+            for word, (_, methods) in classes.items():
+                for method in methods:
+                    parameters = inspect.signature(vars(getattr(module(name), word))[method]).parameters.values()
                     for one in parameters:
                         self.assertEqual(one.kind, inspect.Parameter.POSITIONAL_OR_KEYWORD)
                         self.assertIs(one.default, inspect.Parameter.empty)
