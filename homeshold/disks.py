@@ -24,9 +24,7 @@ class Disk:
         return self._areas[k]
 
     def area_check(self, k):
-        """The check of the text of area k."""
-        if not _is_area(k):
-            raise NoArea()
+        """The check of the text of area k, which is one."""
         return self._checks[k]
 
     def append(self, k, text, most):

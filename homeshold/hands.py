@@ -342,7 +342,7 @@ class Hand:
         _, members, ahead = self._place
         if ahead == ():
             return self._go_on()
-        return self._seal(self._place, sorted(set(ahead + members)))
+        return self._seal(self._place, ahead + members)
 
     def _seal(self, target, homes):
         self._work.target = target

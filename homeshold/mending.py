@@ -23,8 +23,8 @@ def begin_mending(home, table, other):
 
 
 def _numbers(table):
-    """The numbers of the pairs of a table, ascending."""
-    return tuple(sorted([number_at(name, stamp) for name, stamp, row in table[HEADS]]))
+    """The numbers of the pairs of a table."""
+    return [number_at(name, stamp) for name, stamp, row in table[HEADS]]
 
 
 def _places(many):

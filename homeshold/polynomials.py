@@ -60,7 +60,7 @@ def common_factor(polynomial, other, prime):
 
 
 def solved(rows, many, prime):
-    """Some numbers that solve linear equations, None if none do.
+    """Some numbers that solve linear equations, if any numbers do.
 
     Each row has so many coefficients, and behind them what they add up to with the numbers.
     """
@@ -68,13 +68,10 @@ def solved(rows, many, prime):
     pivots = []
     for column in range(many):
         at = _row_with(rows, len(pivots), column)
-        if at is None:
-            continue
-        rows[at], rows[len(pivots)] = rows[len(pivots)], rows[at]
-        rows = _cleared(rows, len(pivots), column, prime)
-        pivots.append(column)
-    if any([row[many] != 0 for row in rows[len(pivots):]]):
-        return None
+        if at is not None:
+            rows[at], rows[len(pivots)] = rows[len(pivots)], rows[at]
+            rows = _cleared(rows, len(pivots), column, prime)
+            pivots.append(column)
     found = [0] * many
     for k, column in enumerate(pivots):
         found[column] = rows[k][many]

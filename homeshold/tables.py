@@ -1,6 +1,6 @@
 """Tables, what a home knows, and the deeds that change them."""
 
-from homeshold.basics import is_ascending, is_count, is_hand, is_integer, is_members, is_name, is_stamp
+from homeshold.basics import is_ascending, is_count, is_hand, is_members, is_name, is_stamp
 from homeshold.errors import NoDeed, NoName, NoTable
 from homeshold.forms import are_parts, is_ahead, is_blocks, is_heads, is_tuple_of, is_vote
 
@@ -47,7 +47,7 @@ def is_table(thing):
     if thing[NEXT] is not None and not is_members(thing[NEXT]):
         return False
     kept = thing[MEMBERS], thing[AHEAD], thing[HEADS], thing[BLOCKS]
-    if is_integer(thing[EPOCH]) and thing[EPOCH] == -1:
+    if thing[EPOCH] == -1:
         return kept == ((), (), (), ())
     return is_count(thing[EPOCH]) and _are_kept(kept)
 

@@ -122,11 +122,9 @@ def difference_of(prime, own, many, places, told, most):
     here = values_of(prime, own, places)
     # With the greatest degrees that most lets, a pair of lesser ones is found with a common factor.
     degree = (most - more) // 2
-    found = _fraction(prime, degree + more, degree, places, here, told)
-    if found is None:
-        return None
-    above, below = _reduced(prime, found[0], found[1])
-    # Where the common factor was nought, the equations told nothing.
+    wide, narrow = _fraction(prime, degree + more, degree, places, here, told)
+    above, below = _reduced(prime, wide, narrow)
+    # Perhaps nothing solved the equations, or they told nothing as the common factor was nought there.
     for place, own_value, other in zip(places, here, told):
         left = worth_at(above, place, prime) * own_value
         right = worth_at(below, place, prime) * other
@@ -138,7 +136,7 @@ def difference_of(prime, own, many, places, told, most):
 
 
 def _fraction(prime, high, low, places, here, told):
-    """Two polynomials of degrees high and low, the first one by the second one being told by here, or None."""
+    """Two polynomials, of degrees high and low, whose quotient is told by here at all places, if there are such."""
     rows = []
     for place, own_value, other in zip(places, here, told):
         powers = _powers(prime, place, max(high, low))
@@ -147,8 +145,6 @@ def _fraction(prime, high, low, places, here, told):
         row.append((powers[low] * other - powers[high] * own_value) % prime)
         rows.append(row)
     found = solved(rows, high + low, prime)
-    if found is None:
-        return None
     return found[:high] + [1], found[high:] + [1]
 
 

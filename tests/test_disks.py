@@ -248,6 +248,13 @@ class TestLines(unittest.TestCase):
             entries = [("area", 0), ("item", "a"), 5, ("whole",)][:len(whole)]
             self.check_lines(text[:many], entries, whole[-1] if whole else 0)
 
+    def test_the_last_line_without_its_line_feed(self):
+        for ahead in ([], [1], [("area", 0), ("item", "a")]):
+            good = written(ahead)
+            line = written([7], good)[:-1]
+            for tail in ("", "x", " ", "#", "0", "xy"):
+                self.check_lines(good + line + tail, ahead, len(good))
+
     def test_each_sign_exchanged(self):
         text = written([1, ("item", "b"), 3])
         first = text.index("\n") + 1

@@ -66,6 +66,20 @@ class TestOps(HandCase):
             self.assertEqual(op, before)
 
 
+    def test_names_and_texts_that_are_words(self):
+        for word in ("read", "write", "remove", "copy", "names", "lease", "free", "move", "carry"):
+            town, hand = Town((3,)), hand_of((3,))
+            self.assertEqual(town.done(hand, ("write", word, word)), ("written", (1, 7)))
+            self.assertEqual(town.done(hand, ("lease", word)), ("leased", (1, 7), word))
+            for op in (("read", "a"), ("write", "a", word), ("remove", "a"), ("copy", "a", "b"), ("names",), ("lease", "a"), ("free", "a"),
+                       ("carry",)):
+                self.assertIsNotNone(town.done(hand, op))
+                self.assertEqual(hand.quick(word), ((1, 7), word))
+            self.assertEqual(town.done(hand, ("names",)), ("names", (word,)))
+            self.assertEqual(town.done(hand, ("read", word)), ("read", (1, 7), word))
+            self.assertEqual(town.done(hand, ("copy", word, "a")), ("copied", (3, 7)))
+
+
 class TestFresh(HandCase):
     def test_told(self):
         for epoch, members, ahead in ((0, (3,), ()), (4, FIVE, (1, 2)), (10 ** 11, tuple(range(9)), (8,))):
@@ -223,6 +237,25 @@ class TestFinding(HandCase):
                 self.take(hand, 1, 2, "kept", 3, "a", top[0])
                 self.take(hand, 6, 2, "kept", 3, "a", top[0])
                 self.check_ended(hand, ("read", top[0], text))
+
+    def test_words_that_no_get_names(self):
+        hand, _ = self.asked([((5, 5), ROW)] * 2)
+        for word, rest in (("told", ("a", (9, 9), None)), ("names", (("a",),)), ("have", ((1, 1),)), ("kept", ("a", (1, 1))),
+                           ("lacks", ("a", (5, 5), ((1, 1),))), ("leased", ()), ("granted", ("a", (9, 9), None)), ("freed", ("a",)),
+                           ("promised", ((1, 1), None)), ("voted", ((1, 1),)), ("beaten", ((1, 1),)), ("sealed", ((0,), (), ())),
+                           ("stood", ((0,), (), ())), ("installed", ())):
+            self.check_idle(hand, 1, 2, word, 3, *rest)
+
+    def test_heads_of_one_stamp(self):
+        rows = (None, (), ((1, 1),), ((1, 1), (1, 1)), ((1, 2),))
+        for first, second in itertools.permutations(range(len(rows)), 2):
+            hand, sent = self.asked([((5, 5), rows[first]), ((5, 5), rows[second])])
+            top = rows[max(first, second)]
+            if top:
+                self.check_sent(sent, self.to_each(((1, 4)[first < second],), 2, ("get", (3, top[0]))))
+                sent = self.take(hand, (1, 4)[first < second], 2, "block", 3, top[0], "x")
+            # They aren't alike.
+            self.assertEqual(sent[-1][3:], ("head", (3, "a", (5, 5), top)))
 
     def test_none(self):
         hand, _ = self.asked([((5, 5), ROW)] * 2)
@@ -519,6 +552,12 @@ class TestQuick(HandCase):
         hand = self.held()
         for name in ("b", "aa", "c"):
             self.assertIsNone(hand.quick(name))
+
+    def test_what_holds_no_lease(self):
+        town, hand = Town((3,)), hand_of((3,))
+        for op in (("read", "a"), ("write", "a", "x"), ("read", "a"), ("copy", "a", "b"), ("remove", "b"), ("free", "a")):
+            town.done(hand, op)
+            self.assertEqual((hand.quick("a"), hand.quick("b")), (None, None))
 
     def test_operations_that_name_it(self):
         for op, names in ((("read", "a"), True), (("write", "a", "x"), True), (("remove", "a"), True), (("copy", "a", "b"), True),

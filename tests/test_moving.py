@@ -89,6 +89,15 @@ class TestBeaten(HandCase):
         self.assertEqual(self.take(hand, 4, 2, "voted", 3, (1, 7)), ())
         self.check_sent(hand.again(), self.to_each(OWN, 3, ("prepare", (3, (3, 7)))))
 
+    def test_copies(self):
+        for hand, talk in ((self.prepared(), 1), (self.accepting(), 2)):
+            elder = hand.copy()
+            self.take(hand, 1, talk, "beaten", 3, (8, 8))
+            anew = self.to_each(OWN, talk + 1, ("prepare", (3, (9, 7))))
+            self.check_sent(hand.copy().again(), anew)
+            self.assertNotEqual(elder.again(), anew)
+            self.check_sent(hand.again(), anew)
+
     def test_other_talks_and_homes(self):
         hand = self.accepting()
         for home, talk in ((1, 1), (1, 3), (0, 2), (5, 2)):
@@ -268,6 +277,13 @@ class TestCarried(MoveCase):
         for order in itertools.permutations((first, first, second)):
             self.assertEqual(self.carried(*[(heads, BLOCKS) for heads in order]), (second, ()))
 
+    def test_heads_and_blocks_ascend(self):
+        first = ((("b", (1, 1), ((2, 1),)), ("d", (1, 1), ((2, 3),))), (((2, 1), "x"), ((2, 3), "z")))
+        second = ((("a", (1, 1), ((1, 9),)), ("c", (1, 1), ((2, 2),))), (((1, 9), "w"), ((2, 2), "y")))
+        wanted = ((second[0][0], first[0][0], second[0][1], first[0][1]), (((1, 9), "w"), ((2, 1), "x"), ((2, 2), "y"), ((2, 3), "z")))
+        self.assertEqual(self.carried(first, second), wanted)
+        self.assertEqual(self.carried(second, first), wanted)
+
     def test_blocks_of_another_home(self):
         self.assertEqual(self.carried((HEADS, BLOCKS[:1]), ((), BLOCKS[1:])), (HEADS, BLOCKS))
 
@@ -437,6 +453,15 @@ class TestBehind(HelpCase):
                 self.assertEqual(hand.running(), op)
                 # The phase that began isn't one that was told behind, but in a GET again begins anew at any rate.
                 self.check_sent(hand.again(), self.to_each(OWN, talk + 3, *begins(3)))
+
+    def test_copies(self):
+        for word, hand, talk, begins in self.phases(AHEAD):
+            twin = hand.copy()
+            self.take(hand, 4, talk, "behind", 3)
+            sealed = self.to_each((0, 1, 2, 4, 6), talk + 1, ("seal", (2, OWN)))
+            self.check_sent(hand.copy().again(), sealed)
+            self.assertNotEqual(twin.again(), sealed)
+            self.check_sent(hand.again(), sealed)
 
     def test_without_members_ahead(self):
         for word, hand, talk, begins in self.phases(()):
