@@ -80,6 +80,15 @@ class TestOps(HandCase):
             self.assertEqual(town.done(hand, ("copy", word, "a")), ("copied", (3, 7)))
 
 
+    def test_words_ahead_of_a_help(self):
+        # Only the operation carry begins with a SEAL.
+        for op in OPS[:8] + (("read", "carry"), ("write", "a", "carry"), ("copy", "a", "carry"), ("lease", "carry")):
+            hand = hand_of((1, 4), 3, (0, 5))
+            sent = hand.begin(op)
+            words = {"names": "list", "lease": "lease", "free": "free", "move": "prepare"}
+            self.assertEqual([letter[3] for letter in sent], [words.get(op[0], "ask")] * 2)
+
+
 class TestFresh(HandCase):
     def test_told(self):
         for epoch, members, ahead in ((0, (3,), ()), (4, FIVE, (1, 2)), (10 ** 11, tuple(range(9)), (8,))):
