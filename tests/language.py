@@ -1,4 +1,4 @@
-"""What a script can see of LANGUAGE.md: rules L10, L12, L14, L17 and L27, and a part of L2, L6, L7 and L8.
+"""What a script can see of LANGUAGE.md: rules L10, L12, L14, L17 and L27, and a part of L2, L6, L7, L8, L15 and L25.
 
 faults(source) is a list of (rule, row, why); folder_faults(folder) is one of (file, rule, row, why).
 """
@@ -78,6 +78,14 @@ LIBRARY = {
     "collections": ["defaultdict"],
     "__future__": ["annotations"],
 }
+METHODS = set(
+    "append clear copy count endswith extend find get index insert isalnum isalpha isdigit islower isspace isupper items "
+    "join keys ljust lower lstrip partition pop remove replace reverse rfind rjust rpartition rsplit rstrip setdefault "
+    "split splitlines startswith strip update upper values zfill bit_length title capitalize swapcase casefold center "
+    "expandtabs removeprefix removesuffix rindex isascii isdecimal isnumeric istitle isidentifier isprintable translate "
+    "add discard".split()
+)
+TAKES_LISTS = {"any", "all", "min", "max", "sum", "sorted"}
 BARRED_NODES = (
     ast.Global, ast.AsyncFunctionDef, ast.AsyncFor, ast.AsyncWith, ast.Await, ast.Div, ast.MatMult,
 )
@@ -316,6 +324,35 @@ def builtin_faults(tree):
     return found
 
 
+def call_faults(tree, own):
+    """The package has a class with __eq__, so any, all and the like take lists, and nothing is sorted in its place."""
+    found = []
+    for node in ast.walk(tree):
+        if not isinstance(node, ast.Call):
+            continue
+        if isinstance(node.func, ast.Attribute) and node.func.attr not in METHODS | own:
+            found.append(("L25", node.lineno, "there is a method besides the allowed ones: " + node.func.attr))
+        if isinstance(node.func, ast.Name) and node.func.id in TAKES_LISTS:
+            if [one for one in node.args if isinstance(one, ast.GeneratorExp)]:
+                found.append(("L7", node.lineno, "a generator expression stands where a list has to"))
+    return found
+
+
+def shadow_faults(tree):
+    """Local names that are those of a class or an import of the file."""
+    taken = {node.name for node in tree.body if isinstance(node, ast.ClassDef)}
+    for node in tree.body:
+        if isinstance(node, ast.ImportFrom):
+            taken.update([one.name for one in node.names])
+    found = []
+    for function in ast.walk(tree):
+        if isinstance(function, ast.FunctionDef):
+            for name, row, kind in names_of(function):
+                if kind == "variable" and name in taken:
+                    found.append(("L15", row, "a name is that of a class or an import: " + name))
+    return found
+
+
 def warning_faults(source):
     with warnings.catch_warnings():
         warnings.simplefilter("error")
@@ -326,8 +363,8 @@ def warning_faults(source):
     return []
 
 
-def faults(source):
-    """What is wrong in the text of one file."""
+def faults(source, methods=()):
+    """What is wrong in the text of one file, where these are methods of other files of the package."""
     found = warning_faults(source) + sign_faults(source)
     with warnings.catch_warnings():
         warnings.simplefilter("ignore")
@@ -337,6 +374,21 @@ def faults(source):
             return found + [("L1", error.lineno or 1, "this is no Python")]
     found += size_faults(source, tree) + name_faults(source, tree) + unused_name_faults(tree, source)
     found += string_faults(tree, source) + number_faults(tree) + import_faults(tree) + builtin_faults(tree)
+    own = {method.name for method in methods_of(tree)} | set(methods)
+    return found + call_faults(tree, own) + shadow_faults(tree)
+
+
+def own_methods(folder):
+    """The names of all methods of a package."""
+    found = set()
+    for at, _, files in os.walk(folder):
+        for name in files:
+            if name.endswith(".py"):
+                with open(os.path.join(at, name), encoding="utf-8") as file:
+                    try:
+                        found.update([method.name for method in methods_of(ast.parse(file.read()))])
+                    except SyntaxError:
+                        continue
     return found
 
 
@@ -364,6 +416,7 @@ def folder_faults(folder):
         found.append((folder, "L14", 0, "the package has the name of a module of Python"))
     many = 0
     signs = 0
+    methods = own_methods(folder)
     for at, folders, files in os.walk(folder):
         folders[:] = [name for name in folders if name != "__pycache__"]
         found += [(at,) + fault for fault in file_name_faults(at, files)]
@@ -372,7 +425,7 @@ def folder_faults(folder):
                 source = file.read()
             many += 1
             signs += len(source)
-            found += [(os.path.join(at, name),) + fault for fault in faults(source)]
+            found += [(os.path.join(at, name),) + fault for fault in faults(source, methods)]
     # A file has more signs than its strings, so this errs on the safe side.
     if many > MOST_FILES or signs > MOST_STRING_SIGNS:
         found.append((folder, "L14", 0, "the package is too large"))

@@ -34,6 +34,9 @@ GOOD = (
     "from homeshold.basics import is_name\n",
     "from heapq import heappush, heappop\n",
     "def go(x):\n    return f'{x} of {x}'\n",
+    "def go(xs):\n    return any([x for x in xs]) or ', '.join(x for x in xs).find('a') > 0\n",
+    "class Box:\n    def told(self):\n        return self.told()\n",
+    "from homeshold.basics import is_name\n\n\ndef go(name):\n    return is_name(name)\n",
 )
 
 BAD = (
@@ -123,6 +126,14 @@ BAD = (
     ("L8", "def go(x):\n    return hash(x)\n"),
     ("L15", "def go(min):\n    return 1\n"),
     ("L1", "def go(:\n"),
+    ("L7", "def go(xs):\n    return any(x for x in xs)\n"),
+    ("L7", "def go(xs):\n    return 1 + max((x for x in xs), default=0)\n"),
+    ("L25", "def go(xs):\n    xs.sort()\n"),
+    ("L25", "def go(x):\n    return x.told()\n"),
+    ("L25", "def go(x):\n    return x.union(x)\n"),
+    ("L15", "from homeshold.basics import is_name\n\n\ndef go(is_name):\n    return is_name\n"),
+    ("L15", "from homeshold.basics import is_name\n\n\ndef go(xs):\n    return [1 for is_name in xs]\n"),
+    ("L15", "class Box:\n    pass\n\n\ndef go(xs):\n    Box = 1\n    return Box\n"),
 )
 
 
@@ -198,6 +209,14 @@ class TestFolder(unittest.TestCase):
         self.write("basics.py", "")
         self.write("basics/__init__.py", "")
         self.assertEqual(self.rules(), ["L14"])
+
+    def test_methods_of_other_files(self):
+        self.write("__init__.py", "")
+        self.write("boxes.py", "class Box:\n    def told(self):\n        return 1\n")
+        self.write("basics.py", "def go(box):\n    return box.told()\n")
+        self.assertEqual(self.rules(), [])
+        self.write("basics.py", "def go(box):\n    return box.telling()\n")
+        self.assertEqual(self.rules(), ["L25"])
 
     def test_too_many_files(self):
         self.write("__init__.py", "")
