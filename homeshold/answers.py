@@ -126,6 +126,11 @@ def answer(home, table, letter):
         raise NoTable()
     if not is_letter(letter) or letter[0] != ("home", home):
         raise NoLetter()
+    return answered(home, table, letter)
+
+
+def answered(home, table, letter):
+    """What a home does with a letter to it: what they are isn't checked."""
     to, by, talk, word, rest = letter
     if word in AMONG_HOMES:
         deeds, answers = mended(table, word, rest)

@@ -16,6 +16,8 @@ class Disk:
         self._areas = ["", ""]
         # The check of each area, kept along so that a new line needn't read all lines ahead.
         self._checks = [0, 0]
+        # The generations of the areas that were seen to stand: what is written behind doesn't change them.
+        self._generations = [None, None]
 
     def area(self, k):
         """The text of area k."""
@@ -26,6 +28,12 @@ class Disk:
     def area_check(self, k):
         """The check of the text of area k, which is one."""
         return self._checks[k]
+
+    def generation(self, k):
+        """The generation of area k, None if it doesn't stand."""
+        if self._generations[k] is None:
+            self._generations[k] = _generation(self._areas[k])
+        return self._generations[k]
 
     def append(self, k, text, most):
         """Writes the text, or its first signs, at the end of area k; returns how many signs."""
@@ -57,12 +65,14 @@ class Disk:
     def _put(self, k, text):
         self._areas[k] = text
         self._checks[k] = check_behind(0, 0, text)
+        self._generations[k] = None
 
     def copy(self):
         """A disk that is alike, and goes on apart."""
         twin = Disk()
         twin._areas = list(self._areas)
         twin._checks = list(self._checks)
+        twin._generations = list(self._generations)
         return twin
 
     def __eq__(self, other):
@@ -131,8 +141,8 @@ def _generation(text):
 
 def standing(disk):
     """The area that stands, of two the one of the greater generation, None if none stands."""
-    first = _generation(disk.area(0))
-    second = _generation(disk.area(1))
+    first = disk.generation(0)
+    second = disk.generation(1)
     if first is None and second is None:
         return None
     if first is None or second is not None and second > first:
@@ -146,7 +156,7 @@ def opened(disk):
     if k is None:
         disk.clear(0)
         disk.clear(1)
-        disk.append(0, _written((("area", 0), WHOLE), 0, 0), None)
+        disk.append(0, written_lines((("area", 0), WHOLE), 0, 0), None)
         return []
     entries, many = _counted(disk.area(k))
     disk.shorten(k, many)
@@ -154,7 +164,7 @@ def opened(disk):
     return [entry[1] for entry in entries if is_pair(entry) and entry[0] == "item"]
 
 
-def _written(entries, number, many):
+def written_lines(entries, number, many):
     """The text of the lines of these entries, behind so many signs with this check."""
     text = ""
     for entry in entries:
@@ -173,7 +183,7 @@ def noted(disk, item, most):
     k = standing(disk)
     if k is None:
         raise NoStand()
-    line = _written((("item", item),), disk.area_check(k), len(disk.area(k)))
+    line = written_lines((("item", item),), disk.area_check(k), len(disk.area(k)))
     return disk.append(k, line, most)
 
 
@@ -186,7 +196,7 @@ def kept(disk, items, most):
     k = standing(disk)
     if k is None:
         raise NoStand()
-    newer = _generation(disk.area(k)) + 1
-    text = _written((("area", newer),) + tuple([("item", item) for item in items]) + (WHOLE,), 0, 0)
+    newer = disk.generation(k) + 1
+    text = written_lines((("area", newer),) + tuple([("item", item) for item in items]) + (WHOLE,), 0, 0)
     disk.clear(1 - k)
     return disk.append(1 - k, text, most)

@@ -4,8 +4,8 @@ from homeshold.basics import chopped, is_name, joined
 from homeshold.errors import Busy, NoLetter, NoName, NoOp
 from homeshold.letters import is_letter
 from homeshold.ops import is_op, names_in
-from homeshold.phases import Phase, carried, head_key, letters_to, said, unlike_ids
-from homeshold.tables import FIRST_HEAD
+from homeshold.phases import Phase, carried, letters_to, said, unlike_ids
+from homeshold.tables import FIRST_HEAD, head_key
 
 # For so many ticks, from the one at which its phase began, a hand trusts a lease.
 TRUSTED_TICKS = 2

@@ -5,6 +5,8 @@ from homeshold.forms import is_tuple_of
 
 # The operations whose parts behind their word are just so many names.
 NAMES = {"read": 1, "remove": 1, "copy": 2, "names": 0, "lease": 1, "free": 1, "carry": 0}
+# The operations besides copy whose results tell a stamp of their name.
+STAMPED = ("read", "lease", "write", "remove")
 
 
 def is_op(thing):
@@ -27,3 +29,10 @@ def names_in(op):
     if op[0] == "move":
         return ()
     return op[1:]
+
+
+def named_at_end(op):
+    """The name whose stamp the result of an operation tells, None if it tells none."""
+    if op[0] == "copy":
+        return op[2]
+    return op[1] if op[0] in STAMPED else None

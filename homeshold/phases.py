@@ -1,7 +1,7 @@
 """Phases of operations: what a hand writes to which homes, and which of them count."""
 
 from homeshold.basics import majority
-from homeshold.tables import heads_in_order, led_by
+from homeshold.tables import head_key, heads_in_order, led_by
 
 # The answer that counts in each phase; in a phase of get none does.
 ANSWERS = {
@@ -72,12 +72,6 @@ def said(epoch, name, head, ids, known):
     """What is written to a home so that it keeps a head: the pieces of these ids, and the head."""
     puts = [("put", (epoch, block_id, known[block_id])) for block_id in ids]
     return tuple(puts + [("head", (epoch, name) + head)])
-
-
-def head_key(head):
-    """What heads are compared by: their stamps, and behind these their rows, no file being the least."""
-    stamp, row = head
-    return (stamp, row is not None, row or ())
 
 
 def carried(told):

@@ -18,6 +18,7 @@ NEXT = 9
 MANY_PARTS = 10
 
 BARE = (-1, (), (), 0, (), (), (), (0, 0), None, None)
+FIRST_STAMP = (0, 0)
 FIRST_HEAD = ((0, 0), None)
 LEASE_TICKS = 8
 
@@ -81,6 +82,12 @@ def is_deed(thing):
 def changed(table, at, part):
     """The table with another part at this place."""
     return table[:at] + (part,) + table[at + 1:]
+
+
+def head_key(head):
+    """What heads are compared by: their stamps, and behind these their rows, no file being the least."""
+    stamp, row = head
+    return (stamp, row is not None, row or ())
 
 
 def heads_by_name(heads):

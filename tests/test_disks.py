@@ -1,6 +1,7 @@
 """[7]: disks, their lines, and what is noted and kept on them."""
 
 import copy
+import random
 import unittest
 
 from homeshold.disks import Disk, kept, lines, noted, opened, rest, standing
@@ -325,6 +326,33 @@ class TestStanding(unittest.TestCase):
                 self.assertEqual(standing(disk_of(text, other)), 0)
                 self.assertEqual(standing(disk_of(other, text)), 1)
                 self.assertIs(type(standing(disk_of(text, other))), int)
+
+    def test_whatever_was_done_before(self):
+        """An area that stood stands as its text tells, and no longer."""
+        draw = random.Random(7)
+        texts = (FRESH, area_of(1, ()), area_of(2, (1,)), area_of(9, (), (2,)), "torn", "\n", written([("area", 4)]))
+        for _ in range(60):
+            disk = Disk()
+            for _ in range(25):
+                k = draw.randrange(2)
+                step = draw.randrange(6)
+                if step < 2:
+                    disk.append(k, draw.choice(texts), draw.choice((None, None, draw.randrange(60))))
+                elif step == 2:
+                    disk.clear(k)
+                elif step == 3:
+                    disk.shorten(k, draw.randrange(len(disk.area(k)) + 1))
+                elif step == 4:
+                    disk = disk.copy()
+                elif standing(disk) is not None:
+                    kept(disk, ("x",), draw.choice((None, draw.randrange(80))))
+                twin = disk_of(*areas(disk))
+                self.assertEqual(standing(disk), standing(twin))
+                if standing(disk) is not None:
+                    self.assertEqual(kept(disk.copy(), (), None), kept(twin, (), None))
+                    other = disk.copy()
+                    kept(other, (), None)
+                    self.assertEqual(areas(other), areas(twin))
 
     def test_two(self):
         for first in (0, 1, 5, 10 ** 29):

@@ -28,6 +28,11 @@ FUNCTIONS = {
     "letters": {"is_letter": ("thing",)},
     "answers": {"answer": ("home", "table", "letter")},
     "mending": {"begin_mending": ("home", "table", "other")},
+    "stations": {"table_of": ("disk",)},
+    "histories": {
+        "is_history": ("thing",), "right_order": ("history",), "is_right_order": ("history", "thing"), "bar": ("history",),
+        "is_bar": ("history", "thing"),
+    },
     "values": {
         "values": ("prime", "lot", "places"), "roots": ("prime", "polynomial", "lot"),
         "difference": ("prime", "own", "many", "places", "told", "most"), "number_of": ("name", "stamp"),
