@@ -33,6 +33,9 @@ FUNCTIONS = {
         "is_history": ("thing",), "right_order": ("history",), "is_right_order": ("history", "thing"), "bar": ("history",),
         "is_bar": ("history", "thing"),
     },
+    "watch": {"meaning": ("world",), "sure": ("world", "name"), "lacking_homes": ("world",), "complaints": ("world",)},
+    "calls": {"calls_of": ("world",)},
+    "days": {"day": ("world",), "relived": ("text",)},
     "values": {
         "values": ("prime", "lot", "places"), "roots": ("prime", "polynomial", "lot"),
         "difference": ("prime", "own", "many", "places", "told", "most"), "number_of": ("name", "stamp"),
@@ -51,6 +54,18 @@ CLASSES = {
         "Hand": (("hand", "epoch", "members", "ahead"), {
             "begin": ("op",), "take": ("letter",), "again": (), "tick": (), "running": (), "result": (), "at_place": (),
             "quick": ("name",), "copy": (),
+        }),
+    },
+    "world": {
+        "World": (("homes", "members"), {
+            "event": ("event",), "beginning": (), "bag": (), "history": (), "events": (), "moments": (), "table": ("i",),
+            "disk": ("i",), "homes": (), "ended": (), "hands": (), "hand": ("h",), "copy": (), "settle": ("most",),
+        }),
+    },
+    "store": {
+        "Store": (("homes", "members"), {
+            "write": ("name", "text"), "remove": ("name",), "copy_to": ("name", "other"), "read": ("name",), "names": (),
+            "move": ("members",), "fall": ("i",), "rise": ("i",), "lose": ("i",), "world": (),
         }),
     },
 }
