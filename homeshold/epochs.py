@@ -49,7 +49,7 @@ class Epochs:
         away = gone + [home]
         later = [epoch for epoch in self._places if epoch >= least]
         lots = [self._places[epoch][1] for epoch in later]
-        lots += [members for epoch, members in self._moves if epoch >= least and epoch in self._places]
+        lots += [members for epoch, members in self._moves if epoch >= least]
         if any([is_left_behind(members, away) for members in lots]):
             return False
         keeping = [epoch for epoch in later if home in self._places[epoch][1] and known[home] >= epoch]

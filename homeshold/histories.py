@@ -23,7 +23,7 @@ def is_call(thing):
     if not is_tuple_of(MANY_PARTS, thing):
         return False
     kind, name, told, begin, end = thing
-    if not isinstance(kind, str) or kind not in (READ, WRITE) or not isinstance(name, str):
+    if kind not in (READ, WRITE) or not isinstance(name, str):
         return False
     if not is_thing(told, TOLD_DEPTH) or kind == WRITE and told is None:
         return False

@@ -17,7 +17,7 @@ MOST_TICKS = 2
 OF_HANDS = ("do", "again", "die", "quick")
 OF_LETTERS = ("come", "double", "lose", "cut")
 # What a home has to be so that this happens to it.
-OF_HOMES = {"fall": UP, "rise": DOWN, "collect": UP, "compact": UP, "mend": UP}
+OF_HOMES = {"fall": "up", "rise": "down", "collect": "up", "compact": "up", "mend": "up"}
 
 
 class World:

@@ -24,11 +24,12 @@ def areas(disk):
 
 
 def seen(world):
-    """All that a world tells of itself."""
+    """All that a world tells of itself, apart from the lists that it told."""
     homes = range(len(world.homes()))
     return (
-        world.beginning(), world.bag(), world.history(), world.moments(), world.events(), world.homes(), world.ended(), world.hands(),
-        [world.table(i) for i in homes], [areas(world.disk(i)) for i in homes], [look(world.hand(h)) for h in world.hands()],
+        world.beginning(), list(world.bag()), list(world.history()), list(world.moments()), list(world.events()), list(world.homes()),
+        world.ended(), world.hands(), [world.table(i) for i in homes], [areas(world.disk(i)) for i in homes],
+        [look(world.hand(h)) for h in world.hands()],
     )
 
 

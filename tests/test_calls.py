@@ -187,6 +187,34 @@ class TestCalls(CallsCase):
             ("read", "a", (2, 7)), ("write", "a", (1, 7)), ("write", "a", (2, 7))])
         self.check_right(world)
 
+    def test_stamps_alike_at_two_names(self):
+        world = world_of(7, 8)
+        ended_op(world, 7, ("write", "b", "x"))
+        half_written(emptied(world), 7, ("write", "a", "y"))
+        ended_op(world, 8, ("read", "a"))
+        self.check_calls(world, *told_calls(world))
+        self.assertEqual(sorted([call[:3] for call in calls_of(world)]), [
+            ("read", "a", (1, 7)), ("write", "a", (1, 7)), ("write", "b", (1, 7))])
+
+    def test_two_hands_that_never_ended_at_one_name(self):
+        # Hand 9 begins first, but its stamp is the later one.
+        world = done(world_of(7, 8, 9), ("do", 9, ("write", "a", "late")))
+        for _ in range(3):
+            done(world, ("lose", 0))
+        begin = 2 * (len(world.events()) - 4)
+        half_written(world, 7, ("write", "a", "first"))
+        emptied(done(world, ("do", 8, ("read", "a"))))
+        self.assertEqual(world.hand(8).result()[1], (1, 7))
+        done(world, ("again", 9))
+        while "head" not in [letter[3] for letter in world.bag()]:
+            done(world, ("come", 0))
+        while world.bag():
+            to, _, _, word, _ = world.bag()[0]
+            done(world, ("lose" if word in ("put", "head") and to[1] else "come", 0))
+        self.assertEqual(ended_op(done(world, ("die", 9)), 8, ("read", "a"))[1], (2, 9))
+        self.check_calls(world, *told_calls(world))
+        self.assertIn(("write", "a", (2, 9), begin, None), calls_of(world))
+
     def test_at_each_moment_of_a_write(self):
         world = world_of(7, 8)
         done(world, ("do", 7, ("write", "a", "x")), ("do", 8, ("read", "a")))

@@ -332,7 +332,7 @@ class TestStanding(unittest.TestCase):
         draw = random.Random(7)
         texts = (FRESH, area_of(1, ()), area_of(2, (1,)), area_of(9, (), (2,)), "torn", "\n", written([("area", 4)]))
         for _ in range(60):
-            disk = Disk()
+            disk = spare = Disk()
             for _ in range(25):
                 k = draw.randrange(2)
                 step = draw.randrange(6)
@@ -343,9 +343,10 @@ class TestStanding(unittest.TestCase):
                 elif step == 3:
                     disk.shorten(k, draw.randrange(len(disk.area(k)) + 1))
                 elif step == 4:
-                    disk = disk.copy()
+                    disk, spare = disk.copy(), disk
                 elif standing(disk) is not None:
                     kept(disk, ("x",), draw.choice((None, draw.randrange(80))))
+                self.assertEqual(standing(spare), standing(disk_of(*areas(spare))))
                 twin = disk_of(*areas(disk))
                 self.assertEqual(standing(disk), standing(twin))
                 if standing(disk) is not None:

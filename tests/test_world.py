@@ -625,6 +625,28 @@ class TestTold(WorldCase):
         self.check_refused(NoEvent, twin, twin.event, ("hand", 7))
         done(twin, ("hand", 8))
         self.assertEqual(world.hands(), ())
+        self.check_let(world, ("hand", 8))
+
+    def check_let(self, world, event):
+        self.assertIsNone(world.copy().event(event))
+
+    def test_copies_know_which_members_were_named(self):
+        world = world_of_hand(homes=9)
+        twin = done(world.copy(), ("do", 7, ("move", (6, 7, 8))), ("gone", 6))
+        other = twin.copy()
+        self.check_refused(NoEvent, other, other.event, ("gone", 7))
+        self.check_let(done(world, ("gone", 6)), ("gone", 7))
+        done(world.copy(), ("do", 7, ("move", (0, 6, 8))))
+        self.check_let(world, ("gone", 8))
+
+    def test_copies_know_the_epochs(self):
+        world = world_of_hand(homes=5)
+        twin = world.copy()
+        ended_op(twin, 7, ("move", (2, 3, 4)))
+        self.assertEqual(world.ended(), (0, THREE, ()))
+        self.assertEqual(twin.copy().ended(), (1, (2, 3, 4), THREE))
+        done(world, ("gone", 3))
+        self.check_let(world, ("gone", 4))
 
 
 if __name__ == "__main__":
