@@ -336,6 +336,7 @@ class Judge:
         # The greatest stamp that ended at each name, what it was when each running operation began, and what
         # each stamp of a name means.
         self.ended, self.begun, self.texts, self.fresh = {}, {}, {}, {}
+        self.tables = []
 
     def means(self, name, stamp, text):
         if stamp == FIRST:
@@ -379,6 +380,15 @@ class Judge:
         epoch, members, _ = world.ended()
         tables = [world.table(i) for i in range(len(world.homes()))]
         self.case.assertTrue(all([is_closed(table) for table in tables]))
+        for i, (elder, newer) in enumerate(zip(self.tables, tables)):
+            # Epochs only rise, and within an epoch stamps only rise.
+            self.case.assertGreaterEqual(newer[EPOCH], elder[EPOCH])
+            if newer[EPOCH] == elder[EPOCH]:
+                for name, stamp, _ in elder[4]:
+                    self.case.assertGreaterEqual(head_of(newer, name)[0], stamp)
+            if newer != elder:
+                self.case.assertEqual(table_of(world.disk(i)), newer)
+        self.tables = tables
         gone = [i for i in members if world.homes()[i] == "gone"]
         for away in itertools.combinations(members, few(members)):
             if set(gone) <= set(away):
