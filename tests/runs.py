@@ -13,9 +13,10 @@ from homeshold.mending import begin_mending
 from homeshold.stations import table_of
 from homeshold.tables import bare_table, behind, head_of, is_closed
 from homeshold.watch import complaints, meaning, sure
+from homeshold.world import World
 from town import look
 
-EPOCH, MEMBERS, AHEAD = 0, 1, 2
+EPOCH = 0
 FIRST = (0, 0)
 
 
@@ -41,6 +42,18 @@ def index_of(world, word, to=None):
 def done(world, *events):
     for event in events:
         world.event(event)
+    return world
+
+
+def world_of(*hands, homes=3, members=(0, 1, 2)):
+    """A world to which these hands came."""
+    return done(World(homes, members), *[("hand", h) for h in hands])
+
+
+def emptied(world):
+    """The world when all letters came."""
+    while world.bag():
+        world.event(("come", 0))
     return world
 
 

@@ -6,19 +6,7 @@ import unittest
 from homeshold.calls import calls_of
 from homeshold.histories import is_history, is_right_order, right_order
 from homeshold.world import World
-from runs import MIXES, done, drawn_event, drawn_members, ended_op, index_of, is_done, seen, stamped
-
-THREE = (0, 1, 2)
-
-
-def world_of(*hands, homes=3, members=THREE):
-    return done(World(homes, members), *[("hand", h) for h in hands])
-
-
-def emptied(world):
-    while world.bag():
-        world.event(("come", 0))
-    return world
+from runs import MIXES, done, drawn_event, drawn_members, emptied, ended_op, is_done, seen, stamped, world_of
 
 
 def half_written(world, h, op, homes=(0,)):

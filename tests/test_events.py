@@ -5,7 +5,7 @@ import unittest
 
 from homeshold.errors import HomeError, NoEvent, NoNumber
 from homeshold.world import World
-from runs import done, drawn_event, drawn_members, ended_op, index_of, is_done, seen, waits_for_ever
+from runs import done, drawn_event, drawn_members, emptied, ended_op, index_of, is_done, seen, waits_for_ever, world_of
 from samples import NO_COUNTS, NO_HANDS, NO_HOMES, NO_INTEGERS, NO_MEMBERS, NO_NAMES, STRANGE, nested, spoilt
 
 THREE = (0, 1, 2)
@@ -27,16 +27,6 @@ EVENTS = (
     (("compact", 0, None), (NO_HOMES, NO_MOST)), (("compact", 0, 3), (NO_HOMES, NO_MOST)), (("mend", 0, 1), (NO_HOMES, NO_HOMES)),
     (("quick", 7, "a"), (NO_HANDS, NO_NAMES)),
 )
-
-
-def world_of(*hands, homes=3, members=THREE):
-    return done(World(homes, members), *[("hand", h) for h in hands])
-
-
-def emptied(world):
-    while world.bag():
-        world.event(("come", 0))
-    return world
 
 
 class EventCase(unittest.TestCase):

@@ -8,7 +8,7 @@ from homeshold.errors import HomeError, NoName
 from homeshold.tables import head_of, is_closed, is_table
 from homeshold.watch import complaints, lacking_homes, meaning, sure
 from homeshold.world import World
-from runs import MIXES, done, drawn_event, drawn_members, ended_op, index_of, is_done, seen
+from runs import MIXES, done, drawn_event, drawn_members, emptied, ended_op, index_of, is_done, seen, world_of
 from samples import BARE, NO_NAMES, STRANGE, spoilt
 
 EPOCH, MEMBERS, AHEAD, CLOCK, HEADS, BLOCKS, LEASES, PROMISE, VOTED, NEXT = range(10)
@@ -55,16 +55,6 @@ class Told:
 def table(epoch=0, members=THREE, ahead=(), heads=(), blocks=(), newer=None):
     """A table of an epoch with the heads of a tuple of names, stamps and rows."""
     return (epoch, members, ahead, 0, tuple(sorted(heads)), tuple(sorted(blocks)), (), (0, 0), None, newer)
-
-
-def world_of(*hands, homes=3, members=THREE):
-    return done(World(homes, members), *[("hand", h) for h in hands])
-
-
-def emptied(world):
-    while world.bag():
-        world.event(("come", 0))
-    return world
 
 
 def lost(world, i, *words):
